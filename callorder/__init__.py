@@ -1,0 +1,1 @@
+"""Calls that overlap in time, put into one order, or shown to have none."""
