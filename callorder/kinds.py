@@ -36,14 +36,21 @@ def has_parts(deed, parts):
     return parts == 2 or is_whole_number(deed[2])
 
 
+def can_do(kind, deed):
+    key = (kind, deed[0])
+    return key in PARTS and has_parts(deed, PARTS[key])
+
+
+def some_kind_can_do(deed):
+    return any([can_do(kind, deed) for kind in STARTS])
+
+
 def check_deed(kind, deed):
     check_kind(kind)
-    word = deed[0]
-    if (kind, word) not in PARTS:
-        raise BadCall(f"a {kind} has no deed {word!r}")
-    # The parts are left out of the words: Python refuses to write very long numbers.
-    if not has_parts(deed, PARTS[(kind, word)]):
-        raise BadCall(f"the deed {word!r} of a {kind} has other parts")
+    if not can_do(kind, deed):
+        word = deed[0]
+        # The other parts are left out of the words: Python refuses to write very long numbers.
+        raise BadCall(f"a {kind} has no deed {word!r} with these parts")
 
 
 def do_row(row, deed):

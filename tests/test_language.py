@@ -34,6 +34,9 @@ METHODS = """
 
 PYTHON_KINDS = (str, int, list, tuple, dict, set, bytes, ValueError)
 
+WALKED = ("zip", "enumerate", "reversed", "range", "items", "keys", "values")
+WALKERS = ("list", "tuple", "dict", "sorted", "sum", "any", "all", "enumerate", "zip", "min", "max")
+
 NO_WORDS = re.compile(
     r"\b(type|typing|typing_extensions|enum|Enum|IntEnum|StrEnum|Flag|IntFlag|Generic|Protocol|ABC|ABCMeta"
     r"|namedtuple|NamedTuple|TypedDict|TYPE_CHECKING|abstractmethod)\b|dataclass|overload|contextmanager"
@@ -50,6 +53,18 @@ def bound_names(node):
     if isinstance(node, ast.Name) and isinstance(node.ctx, ast.Store):
         return [node.id]
     return []
+
+
+def called_name(node):
+    if not isinstance(node, ast.Call):
+        return None
+    return node.func.attr if isinstance(node.func, ast.Attribute) else getattr(node.func, "id", None)
+
+
+def walked_at_once(node):
+    if isinstance(node, (ast.For, ast.comprehension)):
+        return [node.iter]
+    return node.args[:1] if called_name(node) in WALKERS else []
 
 
 class TestLanguage(unittest.TestCase):
@@ -99,6 +114,15 @@ class TestLanguage(unittest.TestCase):
                 self.assertIn(node.id, OWN_NAMES, place)
             if isinstance(node, ast.Attribute) and any(hasattr(kind, node.attr) for kind in PYTHON_KINDS):
                 self.assertIn(node.attr, METHODS, place)
+
+    def test_walked_at_once(self):
+        for path in FILES:
+            nodes = list(ast.walk(ast.parse(path.read_text("utf-8"))))
+            allowed = [walked for node in nodes for walked in walked_at_once(node)]
+            for node in nodes:
+                if called_name(node) in WALKED:
+                    self.assertIn(node, allowed, f"{path.name}:{node.lineno}")
+                self.assertNotIn(called_name(node), ("set", "frozenset"), path.name)
 
 
 if __name__ == "__main__":
